@@ -1,0 +1,41 @@
+import pathlib
+import unittest
+
+from tests.language import faults_of
+
+PACKAGE = pathlib.Path(__file__).resolve().parent.parent / "trunksay"
+
+WRONG = (
+    ("L2", "from sys import argv\n"), ("L2", "from .errors import NoTree\n"), ("L3", "print('x')\n"),
+    ("L3", "LETTERS = list('ab')\n"), ("L4", "def f(*xs):\n    return xs\n"),
+    ("L5", "class A:\n    size = 1\n"), ("L6", "def f():\n    a = b = 1\n    return a\n"),
+    ("L6", "def f(x):\n    assert x\n"), ("L7", "def f(x):\n    return x / 2\n"),
+    ("L7", "def f(x):\n    return any(y for y in x)\n"), ("L8", "def f(x):\n    return hash(x)\n"),
+    ("L10", "def f():\n" + "    f()\n" * 40), ("L10", "#" * 121 + "\n"), ("L12", "def f(_x):\n    return 1\n"),
+    ("L14", "# \u00e4\n"), ("L15", "def f(id):\n    return id\n"), ("L15", "A = 1\nA = 2\n"),
+    ("L17", "# the type of it\n"), ("L19", "def f():\n    try:\n        f()\n    except Exception:\n        pass\n"),
+    ("L20", "def f(x):\n    return x is f\n"), ("L21", "def f(x: int):\n    return x\n"),
+    ("L23", "def f(x):\n    y = range(x)\n    return y\n"), ("L24", "def f(x):\n    y = set(x)\n    return y\n"),
+    ("L25", "def f(x):\n    return x.title()\n"), ("L27", "def f(x):\n    return 2 ** x\n"),
+    ("L27", "def f():\n    return '%'\n"),
+)
+
+
+class Language(unittest.TestCase):
+    def test_the_looker_finds_what_is_wrong(self):
+        for rule, text in WRONG:
+            self.assertIn(rule, [found for found, line in faults_of("trunksay", text)], text)
+
+    def test_each_file_of_the_package(self):
+        files = sorted(PACKAGE.glob("*.py"))
+        self.assertIn(PACKAGE / "__init__.py", files)
+        for file in files:
+            self.assertEqual(faults_of("trunksay", file.read_text("utf-8")), [], file.name)
+
+    def test_nothing_else_lies_in_the_package(self):
+        others = [file.name for file in PACKAGE.iterdir() if file.suffix != ".py" and file.name != "__pycache__"]
+        self.assertEqual(others, [])
+
+
+if __name__ == "__main__":
+    unittest.main()
