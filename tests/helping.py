@@ -73,3 +73,22 @@ def nested(tree):
         left = waiting.pop() if branches & 1 else None
         waiting.append((left, right, marks, number))
     return waiting[0] if waiting else None
+
+
+def every_form():
+    """Pairs of a statement and its text: each form, of each form within."""
+    pairs = [(("one", "a"), "one a")]
+    for word in ("in", "left", "right", "below"):
+        pairs.extend([((word, "x", "A"), "x " + word + " A"), ((word, "B", "B"), "B " + word + " B")])
+    for _ in range(2):
+        inner = pairs[:6] + pairs[-8:]
+        for statement, text in inner:
+            pairs.append((("not", statement), "not " + text))
+            for word in ("some", "all"):
+                for letter in "xX":
+                    pairs.append(((word, letter, statement), word + " " + letter + " " + text))
+        for word in ("and", "or"):
+            for one, one_text in inner:
+                for other, other_text in inner:
+                    pairs.append(((word, one, other), "( " + one_text + " " + word + " " + other_text + " )"))
+    return pairs
