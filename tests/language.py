@@ -32,6 +32,10 @@ class Looker:
         self.found = []
         self.tree = ast.parse(text)
         self.above = {}
+        self.fixed = [node.name for node in self.tree.body if isinstance(node, ast.ClassDef)]
+        for node in self.tree.body:
+            if isinstance(node, ast.ImportFrom):
+                self.fixed.extend(alias.asname or alias.name for alias in node.names)
         for node in ast.walk(self.tree):
             for child in ast.iter_child_nodes(node):
                 self.above[child] = node
@@ -112,11 +116,13 @@ class Looker:
 
     def look_at_arg(self, node):
         self.look_at_word(node, node.arg)
-        if hasattr(builtins, node.arg):
+        if hasattr(builtins, node.arg) or node.arg in self.fixed:
             self.tell("L15", node)
 
     def look_at_Name(self, node):
         self.look_at_word(node, node.id)
+        if node.id in self.fixed and not isinstance(node.ctx, ast.Load):
+            self.tell("L15", node)
         if hasattr(builtins, node.id):
             if not isinstance(node.ctx, ast.Load):
                 self.tell("L15", node)
@@ -217,3 +223,9 @@ def called_name(node):
 def faults_of(package, text):
     """Pairs (rule, line) for what the looker finds in a file's text."""
     return Looker(package, text).look()
+
+
+def drawn_from(package, text):
+    """The names of the package's own files that a file draws from."""
+    return [node.module[len(package) + 1:] for node in ast.parse(text).body
+            if isinstance(node, ast.ImportFrom) and (node.module or "").startswith(package + ".")]

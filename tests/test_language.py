@@ -1,7 +1,7 @@
 import pathlib
 import unittest
 
-from tests.language import faults_of
+from tests.language import drawn_from, faults_of
 
 PACKAGE = pathlib.Path(__file__).resolve().parent.parent / "trunksay"
 
@@ -13,6 +13,8 @@ WRONG = (
     ("L7", "def f(x):\n    return any(y for y in x)\n"), ("L8", "def f(x):\n    return hash(x)\n"),
     ("L10", "def f():\n" + "    f()\n" * 40), ("L10", "#" * 121 + "\n"), ("L12", "def f(_x):\n    return 1\n"),
     ("L14", "# \u00e4\n"), ("L15", "def f(id):\n    return id\n"), ("L15", "A = 1\nA = 2\n"),
+    ("L15", "from trunksay.a import b\n\n\ndef f(b):\n    return b\n"),
+    ("L15", "from trunksay.a import b\n\n\ndef f():\n    b = 1\n    return b\n"),
     ("L17", "# the type of it\n"), ("L19", "def f():\n    try:\n        f()\n    except Exception:\n        pass\n"),
     ("L20", "def f(x):\n    return x is f\n"), ("L21", "def f(x: int):\n    return x\n"),
     ("L23", "def f(x):\n    y = range(x)\n    return y\n"), ("L24", "def f(x):\n    y = set(x)\n    return y\n"),
@@ -31,6 +33,14 @@ class Language(unittest.TestCase):
         self.assertIn(PACKAGE / "__init__.py", files)
         for file in files:
             self.assertEqual(faults_of("trunksay", file.read_text("utf-8")), [], file.name)
+
+    def test_no_two_files_draw_from_one_another(self):
+        drawn = {file.stem: drawn_from("trunksay", file.read_text("utf-8")) for file in PACKAGE.glob("*.py")}
+        while drawn:
+            free = [file for file, others in drawn.items() if not any(other in drawn for other in others)]
+            self.assertNotEqual(free, [], drawn)
+            for file in free:
+                drawn.pop(file)
 
     def test_nothing_else_lies_in_the_package(self):
         others = [file.name for file in PACKAGE.iterdir() if file.suffix != ".py" and file.name != "__pycache__"]

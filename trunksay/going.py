@@ -1,7 +1,7 @@
 """Plain going: whether a statement is true of a tree, through all places and all sets of places."""
 
 from trunksay.errors import TooGreat
-from trunksay.names import is_small
+from trunksay.names import is_small, two_to
 from trunksay.statements import JOINING, is_plain
 from trunksay.trees import links_of
 from trunksay.wearing import borne_by, dressed_in
@@ -10,12 +10,7 @@ MOST_WAYS = 4096
 
 
 def choices_many(letter, size):
-    if is_small(letter):
-        return max(size, 1)
-    many = 1
-    for place in range(size):
-        many = many * 2
-    return many
+    return max(size, 1) if is_small(letter) else two_to(size)
 
 
 def ways_of(statement, size):

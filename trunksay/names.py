@@ -19,6 +19,13 @@ def is_row(text):
     return all([is_letter(sign) for sign in text]) and in_order(text) == text
 
 
+def two_to(exponent):
+    power = 1
+    for each in range(exponent):
+        power = power * 2
+    return power
+
+
 def letter_of(names, marks):
     number = 0
     for name in names:
