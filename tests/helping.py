@@ -191,3 +191,103 @@ def is_machine(value):
             and all(type(leads) is tuple and len(leads) == rooms for leads in table)
             and all(type(row) is tuple and len(row) == rooms for leads in table for row in leads)
             and all(type(room) is int and 0 <= room < rooms for leads in table for row in leads for room in row))
+
+
+def renumbered(machine, order):
+    """The machine with its rooms in another order: order tells for each new number the old one, 0 for 0."""
+    where = {room: number for number, room in enumerate(order)}
+    return machine_by(machine[0], [machine[1][room] for room in order],
+                      lambda letter, left, right: where[machine[2][letter][order[left]][order[right]]])
+
+
+def apart_by_words(machine):
+    """For each two rooms a < b, to each of which some tree comes, that are apart: (steps, why), by the words."""
+    rooms = rooms_come_to(machine)
+    pairs = [(a, b) for a in rooms for b in rooms if a < b]
+    found = {(a, b): (0, ()) for a, b in pairs if machine[1][a] != machine[1][b]}
+    steps = 0
+    while True:
+        more = {}
+        for a, b in pairs:
+            whys = [(letter, side, third) for letter, leads in enumerate(machine[2]) for side in (0, 1) for third in rooms
+                    if found.get(led_apart(leads, side, third, a, b), (None,))[0] == steps]
+            if (a, b) not in found and whys:
+                more[(a, b)] = (steps + 1, min(whys))
+        if not more:
+            return found
+        found.update(more)
+        steps += 1
+
+
+def led_apart(leads, side, third, a, b):
+    """The two rooms, the lesser one first, to which a and b lead."""
+    return tuple(sorted(leads[third][room] if side else leads[room][third] for room in (a, b)))
+
+
+def shown_by_words(word, parts, made, rows):
+    """What the looker is to tell where it is not refused, by the words of the document."""
+    machines = parts + (made,)
+    rows = set(rows)
+    if any(not 0 <= number < len(machine[1]) for row in rows for machine, number in zip(machines, row)):
+        return False
+    if (0,) * len(machines) not in rows:
+        return False
+    for row in rows:
+        *goods, last = [machine[1][number] for machine, number in zip(machines, row)]
+        if last != {"same": goods[0], "not": not goods[0], "and": all(goods), "or": any(goods)}[word]:
+            return False
+    for marks in marks_in_order("".join(sorted(set("".join(machine[0] for machine in machines))))):
+        letters = [marks_in_order(machine[0]).index("".join(sign for sign in marks if sign in machine[0]))
+                   for machine in machines]
+        for left in rows:
+            for right in rows:
+                led = tuple(machine[2][letter][left[place]][right[place]]
+                            for place, (machine, letter) in enumerate(zip(machines, letters)))
+                if led not in rows:
+                    return False
+    return True
+
+
+def idle(names, rooms=1):
+    """A machine that comes to room 0 whatever is read, and lets all by."""
+    return machine_by(names, [True] * rooms, lambda letter, left, right: 0)
+
+
+def left_deep(names, rooms):
+    """The room is how often one goes down at the left, by places that bear all names, but never more than the last."""
+    last = 2 ** len(names) - 1
+    return machine_by(names, [room == rooms - 1 for room in range(rooms)], lambda letter, left, right:
+                      min(left + 1, rooms - 1) if letter == last else 0)
+
+
+def best_keys(machine):
+    """For each room the key of its first tree, found by going round until nothing gets better. A key is
+    (size, left key, right key, letter), the empty tree's is (0,), so keys compare as the trees do."""
+    best = {0: (0,)}
+    while True:
+        better = dict(best)
+        for left, one in best.items():
+            for right, other in best.items():
+                for letter, leads in enumerate(machine[2]):
+                    key = (one[0] + other[0] + 1, one, other, letter)
+                    room = leads[left][right]
+                    if room not in better or key < better[room]:
+                        better[room] = key
+        if better == best:
+            return best
+        best = better
+
+
+def rows_by_keys(machine):
+    best = best_keys(machine)
+    rooms = {key: room for room, key in best.items()}
+    return tuple((rooms[key], key[0], () if key[0] == 0 else (rooms[key[1]], rooms[key[2]], key[3]))
+                 for key in sorted(rooms))
+
+
+def check_least(case, machine):
+    """Some tree comes to each room, in the order of their numbers, and each two rooms are apart."""
+    rooms = len(machine[1])
+    case.assertTrue(is_machine(machine))
+    case.assertEqual([row[0] for row in rows_by_keys(machine)], list(range(rooms)))
+    case.assertEqual(len(apart_by_words(machine)), rooms * (rooms - 1) // 2)

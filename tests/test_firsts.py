@@ -7,32 +7,7 @@ from trunksay.order import comes_ahead
 from trunksay.runs import rooms_of
 
 from tests.helping import (ONE_ROOM, check_refused, every_machine, is_plain, machine_by, ordered_trees, random_machine,
-                           rooms_come_to)
-
-
-def best_keys(machine):
-    """For each room the key of its first tree, found by going round until nothing gets better. A key is
-    (size, left key, right key, letter), the empty tree's is (0,), so keys compare as the trees do."""
-    best = {0: (0,)}
-    while True:
-        better = dict(best)
-        for left, one in best.items():
-            for right, other in best.items():
-                for letter, leads in enumerate(machine[2]):
-                    key = (one[0] + other[0] + 1, one, other, letter)
-                    room = leads[left][right]
-                    if room not in better or key < better[room]:
-                        better[room] = key
-        if better == best:
-            return best
-        best = better
-
-
-def rows_by_keys(machine):
-    best = best_keys(machine)
-    rooms = {key: room for room, key in best.items()}
-    return tuple((rooms[key], key[0], () if key[0] == 0 else (rooms[key[1]], rooms[key[2]], key[3]))
-                 for key in sorted(rooms))
+                           rooms_come_to, rows_by_keys)
 
 
 def first_by_listing(machine, room, most):

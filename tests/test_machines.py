@@ -4,15 +4,10 @@ import unittest
 from trunksay.machines import entries_of, widened
 from trunksay.names import ALL_LETTERS
 
-from tests.helping import (ONE_ROOM, chain, check_refused, is_machine, let_by_words, machine_by, nested, ordered_trees,
-                           random_machine, room_by_words)
+from tests.helping import (ONE_ROOM, chain, check_refused, idle, is_machine, let_by_words, machine_by, nested,
+                           ordered_trees, random_machine, room_by_words)
 
 HUNDRED = machine_by("", [room == 99 for room in range(100)], lambda letter, left, right: min(left + 1, 99))
-
-
-def idle(names, rooms=1):
-    """A machine that comes to room 0 whatever is read."""
-    return machine_by(names, [True] * rooms, lambda letter, left, right: 0)
 
 
 class Entries(unittest.TestCase):

@@ -1,5 +1,6 @@
 """The base of a plain statement: the machine that the document writes out for each of the five words."""
 
+from trunksay.machines import table_by
 from trunksay.names import marks_of, two_to
 from trunksay.statements import names_of
 
@@ -40,17 +41,13 @@ def base_room(statement, marks, left, right):
     return below_room(left, right, first, second)
 
 
-def base_leads(statement, marks, rooms):
-    leads = []
-    for left in range(rooms):
-        leads.append(tuple([base_room(statement, marks, left, right) for right in range(rooms)]))
-    return tuple(leads)
-
-
 def base_of(statement):
     names = names_of(statement)
     rooms = 2 if statement[0] in ("in", "below") else 3
     good_room = 1 if statement[0] == "one" else 0
     good = tuple([room == good_room for room in range(rooms)])
-    table = [base_leads(statement, marks_of(names, letter), rooms) for letter in range(two_to(len(names)))]
-    return (names, good, tuple(table))
+
+    def lead(letter, left, right):
+        return base_room(statement, marks_of(names, letter), left, right)
+
+    return (names, good, table_by(two_to(len(names)), rooms, lead))

@@ -19,6 +19,16 @@ def check_entries(rooms, names):
         raise TooGreat("that makes more than 10,000 entries")
 
 
+def table_by(letters, rooms, lead):
+    table = []
+    for letter in range(letters):
+        leads = []
+        for left in range(rooms):
+            leads.append(tuple([lead(letter, left, right) for right in range(rooms)]))
+        table.append(tuple(leads))
+    return tuple(table)
+
+
 def own_numbers(names, own):
     # For each number of marks over the names the number of these marks over its own ones, which are all names.
     numbers = [0]
