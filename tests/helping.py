@@ -1,10 +1,13 @@
 """What the tests share: refusals looked at closely, kinds of values, trees made in other ways."""
 
+import itertools
+
 from trunksay import errors
 
 REFUSALS = ("NoTree", "NoStatement", "NoPlace", "NoNumber", "TooGreat",
             "NoName", "NoLine", "NothingDone", "NothingHeld")
 
+THIRTEEN = "ABCDEFGHIJKLM"
 SHAPES = {}
 ORDERED = {}
 
@@ -130,6 +133,9 @@ def every_machine(names, rooms):
 
 
 ONE_ROOM = ("", (True,), (((0,),),))
+NEVER = ("", (False,), (((0,),),))
+# Whether the number of places that one goes down at the left is odd.
+PARITY = machine_by("", [False, True], lambda letter, left, right: (left + 1) % 2)
 
 
 def ordered_trees(size, names):
@@ -291,3 +297,80 @@ def check_least(case, machine):
     case.assertTrue(is_machine(machine))
     case.assertEqual([row[0] for row in rows_by_keys(machine)], list(range(rooms)))
     case.assertEqual(len(apart_by_words(machine)), rooms * (rooms - 1) // 2)
+
+
+def pairs_come_to(one, other, names):
+    """All pairs of rooms such that some tree comes to both, sorted."""
+    letters = [[marks_in_order(machine[0]).index("".join(sign for sign in marks if sign in machine[0]))
+                for machine in (one, other)] for marks in marks_in_order(names)]
+    found = {(0, 0)}
+    while True:
+        more = found | {(one[2][first][left[0]][right[0]], other[2][second][left[1]][right[1]])
+                        for first, second in letters for left in found for right in found}
+        if more == found:
+            return sorted(found)
+        found = more
+
+
+# Chains at the left up to room 50, and behind it two rooms whose first trees have 100 and 101 places.
+EDGES = machine_by("", [True] * 54, lambda letter, left, right:
+                   left + 1 if right == 0 and left < 50 else {(50, 49): 51, (50, 50): 52}.get((left, right), 0))
+
+
+class Said:
+    """What a statement says, by the words of the document, over nested trees and sets of places."""
+
+    def __init__(self, tree):
+        self.places = range(len(tree))
+        self.borne = {}
+        for number, (_, marks) in enumerate(tree):
+            for letter in marks:
+                self.borne.setdefault(letter, set()).add(number)
+        self.pairs = {"left": set(), "right": set(), "below": set()}
+        if tree:
+            self.find_pairs(nested(tree))
+
+    def find_pairs(self, node):
+        """All places of a node; each pair is a lower and an upper place."""
+        found = set()
+        for word, branch in (("left", node[0]), ("right", node[1])):
+            if branch is not None:
+                self.pairs[word].add((branch[3], node[3]))
+                found |= self.find_pairs(branch)
+        self.pairs["below"] |= {(low, node[3]) for low in found}
+        return found | {node[3]}
+
+    def true(self, statement, borne=None):
+        borne = self.borne if borne is None else borne
+        word, rest = statement[0], statement[1:]
+        if word == "not":
+            return not self.true(rest[0], borne)
+        if word in ("and", "or"):
+            answers = [self.true(each, borne) for each in rest]
+            return answers[0] and answers[1] if word == "and" else answers[0] or answers[1]
+        if word in ("some", "all"):
+            answers = [self.true(rest[1], {**borne, rest[0]: set(chosen)}) for chosen in self.choices(rest[0])]
+            return any(answers) if word == "some" else all(answers)
+        first = borne.get(rest[0], set())
+        if word == "one":
+            return len(first) == 1
+        second = borne.get(rest[1], set())
+        if word == "in":
+            return first <= second
+        return all(any((low, high) in self.pairs[word] for high in second) for low in first)
+
+    def choices(self, letter):
+        sizes = (1,) if letter.islower() else range(len(self.places) + 1)
+        return [chosen for many in sizes for chosen in itertools.combinations(self.places, many)]
+
+
+def random_statement(chance, parts):
+    if parts == 1:
+        word = chance.choice(("in", "one", "left", "right", "below"))
+        return (word,) + tuple(chance.choice("AXxy") for _ in range(1 if word == "one" else 2))
+    word = chance.choice(("not", "some", "all", "and", "or") if parts > 2 else ("not", "some", "all"))
+    if word in ("and", "or"):
+        first = chance.randrange(1, parts - 1)
+        return (word, random_statement(chance, first), random_statement(chance, parts - 1 - first))
+    inner = random_statement(chance, parts - 1)
+    return (word, inner) if word == "not" else (word, chance.choice("AXxy"), inner)

@@ -6,8 +6,8 @@ from trunksay.firsts import first_tree, firsts_of
 from trunksay.order import comes_ahead
 from trunksay.runs import rooms_of
 
-from tests.helping import (ONE_ROOM, check_refused, every_machine, is_plain, machine_by, ordered_trees, random_machine,
-                           rooms_come_to, rows_by_keys)
+from tests.helping import (EDGES, ONE_ROOM, check_refused, every_machine, is_plain, machine_by, ordered_trees,
+                           random_machine, rooms_come_to, rows_by_keys)
 
 
 def first_by_listing(machine, room, most):
@@ -23,11 +23,6 @@ def towers(rooms):
     """To room i + 1 comes just what has two branches of room i: full trees."""
     return machine_by("", [True] * rooms, lambda letter, left, right:
                       left + 1 if left == right and left + 1 < rooms else 0)
-
-
-# Chains at the left up to room 50, and behind it two rooms whose first trees have 100 and 101 places.
-EDGES = machine_by("", [True] * 54, lambda letter, left, right:
-                   left + 1 if right == 0 and left < 50 else {(50, 49): 51, (50, 50): 52}.get((left, right), 0))
 
 
 class Rows(unittest.TestCase):

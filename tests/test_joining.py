@@ -8,26 +8,9 @@ from trunksay.least import least_of
 from trunksay.machines import widened
 from trunksay.papers import shown
 
-from tests.helping import (ONE_ROOM, check_least, check_refused, every_machine, idle, is_plain, left_deep, let_by_words,
-                           machine_by, marks_in_order, nested, ordered_trees, random_machine, room_by_words,
-                           rooms_come_to, rows_by_keys)
-
-NEVER = ("", (False,), (((0,),),))
-THIRTEEN = "ABCDEFGHIJKLM"
-PARITY = machine_by("", [False, True], lambda letter, left, right: (left + 1) % 2)
-
-
-def pairs_come_to(one, other, names):
-    """All pairs of rooms such that some tree comes to both, sorted."""
-    letters = [[marks_in_order(machine[0]).index("".join(sign for sign in marks if sign in machine[0]))
-                for machine in (one, other)] for marks in marks_in_order(names)]
-    found = {(0, 0)}
-    while True:
-        more = found | {(one[2][first][left[0]][right[0]], other[2][second][left[1]][right[1]])
-                        for first, second in letters for left in found for right in found}
-        if more == found:
-            return sorted(found)
-        found = more
+from tests.helping import (NEVER, ONE_ROOM, PARITY, THIRTEEN, check_least, check_refused, every_machine, idle, is_plain,
+                           left_deep, let_by_words, machine_by, nested, ordered_trees, pairs_come_to, random_machine,
+                           room_by_words, rooms_come_to, rows_by_keys)
 
 
 class Not(unittest.TestCase):

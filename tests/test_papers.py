@@ -6,9 +6,9 @@ from trunksay.joining import both, either, flipped
 from trunksay.least import least_of
 from trunksay.papers import shown
 
-from tests.helping import ONE_ROOM, check_refused, idle, left_deep, machine_by, random_machine, shown_by_words
+from tests.helping import (ONE_ROOM, THIRTEEN, check_refused, idle, left_deep, machine_by, random_machine,
+                           shown_by_words)
 
-THIRTEEN = "ABCDEFGHIJKLM"
 IN = base_of(("in", "A", "B"))
 OUT = (IN[0], (False, True), IN[2])
 

@@ -45,10 +45,14 @@ def built(machine, rows, room):
     return trees[room]
 
 
+def told_tree(machine, rows, row):
+    check_size(row[1])
+    return built(machine, rows, row[0])
+
+
 def first_tree(machine, room):
     rows = firsts_of(machine)
     for row in rows:
         if row[0] == room:
-            check_size(row[1])
-            return built(machine, rows, room)
+            return told_tree(machine, rows, row)
     return None

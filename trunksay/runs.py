@@ -13,7 +13,10 @@ def rooms_of(machine, tree):
     return tuple(rooms)
 
 
-def lets_by(machine, tree):
+def room_of(machine, tree):
     # The empty tree has no place, but comes to room 0.
-    room = rooms_of(machine, tree)[-1] if len(tree) > 0 else 0
-    return machine[1][room]
+    return rooms_of(machine, tree)[-1] if len(tree) > 0 else 0
+
+
+def lets_by(machine, tree):
+    return machine[1][room_of(machine, tree)]
