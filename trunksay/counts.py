@@ -5,9 +5,19 @@ from trunksay.errors import TooGreat
 MOST_COUNTED = 24
 
 
+def come_to(many):
+    # The rooms whose number of trees is not 0.
+    return [room for room, each in enumerate(many) if each > 0]
+
+
 def check_counted(size):
     if size > MOST_COUNTED:
         raise TooGreat("trees of more than 24 places are not counted")
+
+
+def empty_counts(machine):
+    # The one tree without a place comes to room 0.
+    return tuple([1 if room == 0 else 0 for room in range(len(machine[1]))])
 
 
 def next_counts(machine, counts):
@@ -26,7 +36,7 @@ def next_counts(machine, counts):
 def all_counts(machine, size):
     # A row for each size from 0 to the one asked.
     check_counted(size)
-    counts = [tuple([1 if room == 0 else 0 for room in range(len(machine[1]))])]
+    counts = [empty_counts(machine)]
     for each in range(size):
         counts.append(next_counts(machine, counts))
     return counts

@@ -3,7 +3,7 @@
 from trunksay.errors import TooGreat
 from trunksay.names import is_small, two_to
 from trunksay.statements import JOINING, is_plain
-from trunksay.trees import links_of
+from trunksay.trees import up_from, ups_of
 from trunksay.wearing import borne_by, dressed_in
 
 MOST_WAYS = 4096
@@ -34,19 +34,6 @@ def choices_of(letter, size):
     return choices
 
 
-def ups_of(tree):
-    # For each side: for each place the place whose branch at that side it tops, or None.
-    # Dressing changes no branches, so these are reckoned once for a tree.
-    lefts = [None for place in tree]
-    rights = [None for place in tree]
-    for number, pair in enumerate(links_of(tree)):
-        if pair[0] is not None:
-            lefts[pair[0]] = number
-        if pair[1] is not None:
-            rights[pair[1]] = number
-    return (lefts, rights)
-
-
 def bears(tree, number, letter):
     return number is not None and letter in tree[number][1]
 
@@ -55,7 +42,7 @@ def all_below(tree, ups, low, high):
     below = [False for place in tree]
     # From the top down, so that what is above a place is known ahead of it.
     for number in range(len(tree) - 1, -1, -1):
-        up = ups[0][number] if ups[0][number] is not None else ups[1][number]
+        up = up_from(ups, number)
         below[number] = up is not None and (below[up] or bears(tree, up, high))
     return all([below[number] for number in borne_by(tree, low)])
 
@@ -98,4 +85,5 @@ def goes_true(statement, tree, ups):
 def holds(statement, tree):
     if ways_of(statement, len(tree)) > MOST_WAYS:
         raise TooGreat("there are more than 4,096 ways")
+    # Dressing changes no branches, so this is reckoned once for a tree.
     return goes_true(statement, tree, ups_of(tree))

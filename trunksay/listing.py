@@ -1,6 +1,6 @@
 """The trees of a size that are let by: the one of a number, the rank of one, all of them."""
 
-from trunksay.counts import all_counts, let_many
+from trunksay.counts import all_counts, come_to, let_many
 from trunksay.errors import NoNumber, TooGreat
 from trunksay.names import letter_of, marks_of
 from trunksay.order import key_of
@@ -90,10 +90,6 @@ def weight_ahead(machine, counts, tree, weights):
 
 def rank_of(machine, tree):
     return weight_ahead(machine, all_counts(machine, len(tree)), tree, good_weights(machine))
-
-
-def come_to(many):
-    return [room for room, each in enumerate(many) if each > 0]
 
 
 def put_needed(machine, counts, needed, size, left_size):

@@ -1,7 +1,7 @@
 """What the making of machines has in common: rooms found side by side, rooms parted, what a word says of truths."""
 
 from trunksay.machines import check_entries, table_by, table_over
-from trunksay.names import two_to
+from trunksay.names import in_order, two_to
 
 
 def pairs_with(newest):
@@ -17,7 +17,10 @@ def says(word, truths):
         return not truths[0]
     if word == "and":
         return truths[0] and truths[1]
-    return truths[0] or truths[1]
+    if word == "or":
+        return truths[0] or truths[1]
+    # The word "apart", for which no machine is told, but two are compared by it.
+    return truths[0] != truths[1]
 
 
 def side_by_side(machines, names):
@@ -54,6 +57,18 @@ def grown(start, lead, names):
         newest = newest + 1
     table = table_by(letters, len(found), lambda letter, left, right: leads[(letter, left, right)])
     return (found, table)
+
+
+def coupled(word, one, other):
+    # The rows of rooms to which trees come in both machines, and a machine with a room for each of these rows, in
+    # their order, over the names of both.
+    names = in_order(one[0] + other[0])
+    # Looked at ahead of the tables, which double with each name.
+    check_entries(1, names)
+    parts = (one, other)
+    whole = grown((0, 0), side_by_side(parts, names), names)
+    good = tuple([says(word, goods_of(parts, row)) for row in whole[0]])
+    return (whole[0], (names, good, whole[1]))
 
 
 def numbered(rooms, keys):

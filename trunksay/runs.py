@@ -4,12 +4,21 @@ from trunksay.names import letter_of
 from trunksay.trees import links_of
 
 
+def room_below(rooms, number):
+    # None where there is no branch: the empty tree comes to room 0.
+    return 0 if number is None else rooms[number]
+
+
+def room_at(machine, marks, pair, rooms):
+    # The room of a place, told by the rooms of the tops of its branches.
+    leads = machine[2][letter_of(machine[0], marks)]
+    return leads[room_below(rooms, pair[0])][room_below(rooms, pair[1])]
+
+
 def rooms_of(machine, tree):
     rooms = []
     for place, pair in zip(tree, links_of(tree)):
-        left = 0 if pair[0] is None else rooms[pair[0]]
-        right = 0 if pair[1] is None else rooms[pair[1]]
-        rooms.append(machine[2][letter_of(machine[0], place[1])][left][right])
+        rooms.append(room_at(machine, place[1], pair, rooms))
     return tuple(rooms)
 
 

@@ -54,6 +54,23 @@ def links_of(tree):
     return tuple(links)
 
 
+def ups_of(tree):
+    # For each side: for each place the place whose branch at that side it tops, or None.
+    lefts = [None for place in tree]
+    rights = [None for place in tree]
+    for number, pair in enumerate(links_of(tree)):
+        if pair[0] is not None:
+            lefts[pair[0]] = number
+        if pair[1] is not None:
+            rights[pair[1]] = number
+    return (lefts, rights)
+
+
+def up_from(ups, place):
+    # The place right above, None for the top.
+    return ups[0][place] if ups[0][place] is not None else ups[1][place]
+
+
 def sizes_of(tree):
     sizes = []
     for left, right in links_of(tree):
