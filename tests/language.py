@@ -229,3 +229,19 @@ def drawn_from(package, text):
     """The names of the package's own files that a file draws from."""
     return [node.module[len(package) + 1:] for node in ast.parse(text).body
             if isinstance(node, ast.ImportFrom) and (node.module or "").startswith(package + ".")]
+
+
+def own_names(text):
+    """The names of the methods, and those of the values of objects, of all classes of a file."""
+    classes = [node for node in ast.walk(ast.parse(text)) if isinstance(node, ast.ClassDef)]
+    methods = {node.name for each in classes for node in each.body if isinstance(node, ast.FunctionDef)}
+    values = {node.attr for each in classes for node in ast.walk(each)
+              if isinstance(node, ast.Attribute) and isinstance(node.ctx, ast.Store)}
+    return methods - set(DUNDERS), values
+
+
+def taken_names():
+    """The names of Python's own values that an object's values are not to have; methods may be called like some."""
+    taken = {name for kind in (str, int, list, dict, set, frozenset, bytes, tuple) for name in dir(kind)}
+    free_values = set("count index title find get join lower upper split strip copy add".split())
+    return taken - set(METHODS) - {"add", "discard"}, taken - free_values | {"args"}

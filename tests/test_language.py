@@ -1,7 +1,7 @@
 import pathlib
 import unittest
 
-from tests.language import drawn_from, faults_of
+from tests.language import drawn_from, faults_of, own_names, taken_names
 
 PACKAGE = pathlib.Path(__file__).resolve().parent.parent / "trunksay"
 
@@ -41,6 +41,16 @@ class Language(unittest.TestCase):
             self.assertNotEqual(free, [], drawn)
             for file in free:
                 drawn.pop(file)
+
+    def test_names_of_methods_and_of_values(self):
+        # L18 and L26, over the whole package.
+        pairs = [own_names(file.read_text("utf-8")) for file in PACKAGE.glob("*.py")]
+        methods = set().union(*[each for each, _ in pairs])
+        values = set().union(*[each for _, each in pairs])
+        self.assertTrue({"ask", "put", "tree_now"} <= methods and {"tree", "rooms"} <= values)
+        self.assertEqual(methods & values, set())
+        not_methods, not_values = taken_names()
+        self.assertEqual((methods & not_methods, values & not_values), (set(), set()))
 
     def test_nothing_else_lies_in_the_package(self):
         others = [file.name for file in PACKAGE.iterdir() if file.suffix != ".py" and file.name != "__pycache__"]
